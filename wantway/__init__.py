@@ -1,0 +1,1 @@
+"""Wantway: worths asked only when wanted, and each but once."""
