@@ -2,6 +2,7 @@
 
 import unittest
 
+from helpers import assert_only, assert_own_list
 from wantway import errors
 from wantway.kinds import Kinds
 
@@ -12,10 +13,6 @@ FOUR = ("four", ("tags", ("A", "B", "C", "D")))
 BOTH = ("both", ("pair", "bit", "unit"))
 DEEP = ("deep", ("pair", "both", "unit"))
 SIX = [BIT, TINT, UNIT, FOUR, BOTH, DEEP]
-OTHERS = [
-    thing for thing in vars(errors).values()
-    if isinstance(thing, type) and thing not in (errors.WantError, errors.NoKinds)
-]
 
 
 def tags(name, *some):
@@ -26,14 +23,19 @@ def pair(name, one, other):
     return (name, ("pair", one, other))
 
 
+class LikeAll:
+    """A thing that says of itself that it is like everything."""
+
+    def __eq__(self, other):
+        return True
+
+
 class KindsTest(unittest.TestCase):
     def refused(self, told):
         kept = list(told)
         with self.assertRaises(errors.NoKinds) as caught:
             Kinds(told)
-        self.assertIsInstance(caught.exception, errors.WantError)
-        self.assertIsInstance(caught.exception, ValueError)
-        self.assertNotIsInstance(caught.exception, tuple(OTHERS))
+        assert_only(self, caught.exception, errors.NoKinds)
         self.assertEqual(told, kept)
 
 
@@ -44,6 +46,7 @@ class NamesAndTagsTest(KindsTest):
 
     def test_no_names(self):
         wrong = ["", "abcdefghi", "A", "aB", "Ab", "a1", "1", "a b", " a", "a ", " ", "a_b", "a-b", "`", "{", "~"]
+        wrong += [None, True, 5, b"a", ("a",)]
         for name in wrong:
             self.refused([tags(name, "A")])
 
@@ -53,6 +56,7 @@ class NamesAndTagsTest(KindsTest):
 
     def test_no_tags(self):
         wrong = ["", "ABCDEFGHI", "a", "Ab", "aB", "A1", "1", "A B", " A", "A ", " ", "A_B", "A-B", "@", "[", "~"]
+        wrong += [None, True, 5, b"A", ("A",)]
         for tag in wrong:
             self.refused([tags("a", tag)])
             self.refused([tags("a", "OK", tag)])
@@ -160,13 +164,7 @@ class KeptTest(KindsTest):
             lambda: kinds.wholes_of("tint"), lambda: kinds.wholes_of("both"),
         ]
         for ask in asks:
-            first = ask()
-            kept = list(first)
-            self.assertIs(type(first), list)
-            first.append("more")
-            first[0] = "other"
-            self.assertEqual(ask(), kept)
-            self.assertIsNot(ask(), ask())
+            assert_own_list(self, ask)
 
 
 class WorthsTest(KindsTest):
@@ -247,7 +245,7 @@ class IsWorthTest(KindsTest):
             0, 1, -1, 10 ** 50, True, False, "", "no", "YE", "NO ", " ", "bit", "N", "YES" * 3, b"NO",
             [], ["NO"], ["NO", "U"], ["NO", "YES"], (), ("NO",), ("NO", "U", "U"), (None,), (None, None, None),
             ("NO", ["U"]), (["NO"], "U"), ("NO", True), (0, 1), (True, False), ("NO", ("U",)), ("NO", ()),
-            {}, {"NO": "U"}, set(), frozenset(), {"NO", "U"}, object(), len, Kinds, ring, range(2), deep,
+            {}, {"NO": "U"}, set(), frozenset(), {"NO", "U"}, object(), LikeAll(), len, Kinds, ring, range(2), deep,
         ]
         for thing in wrong:
             for kind in self.kinds.names():

@@ -2,6 +2,7 @@
 
 import unittest
 
+from helpers import assert_only, assert_own_list
 from wantway import errors
 from wantway.kinds import Kinds
 from wantway.worths import is_under, is_whole, joined, part_of, unknown_ways
@@ -64,8 +65,7 @@ class JoinedTest(unittest.TestCase):
     def refused(self, one, other):
         with self.assertRaises(errors.NoWorth) as caught:
             joined(one, other)
-        self.assertEqual(type(caught.exception).__bases__, (errors.WantError,))
-        self.assertIsInstance(caught.exception, ValueError)
+        assert_only(self, caught.exception, errors.NoWorth)
 
     def test_some_by_hand(self):
         self.assertIsNone(joined(None, None))
@@ -144,11 +144,7 @@ class UnknownWaysTest(unittest.TestCase):
 
     def test_a_new_list_each_time(self):
         for worth in (None, "A", DEEP):
-            first = unknown_ways(worth)
-            kept = list(first)
-            first.append((0, 0, 0))
-            self.assertEqual(unknown_ways(worth), kept)
-            self.assertIsNot(unknown_ways(worth), unknown_ways(worth))
+            assert_own_list(self, lambda: unknown_ways(worth))
 
 
 if __name__ == "__main__":
