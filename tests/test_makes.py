@@ -4,7 +4,7 @@ import unittest
 
 from wantway.books import Book
 from wantway.errors import NoWorth
-from wantway.makes import made
+from wantway.makes import Table, made, made_at
 from wantway.worths import is_under
 
 KINDS = [
@@ -38,8 +38,12 @@ def ask(f, *some):
 class MadeTest(unittest.TestCase):
     def makes(self, body, worth, known=KNOWN, table=TABLE):
         kept_known, kept_table = dict(known), dict(table)
-        self.assertEqual(made(body, known, table), worth, body)
+        self.assertEqual(made(body, known, Table(table)), worth, body)
         self.assertEqual((known, table), (kept_known, kept_table))
+
+    def makes_nothing(self, body, known=KNOWN, table=TABLE):
+        with self.assertRaises(NoWorth):
+            made(body, known, Table(table))
 
     def test_tag(self):
         self.makes(NO, "NO")
@@ -120,14 +124,28 @@ class MadeTest(unittest.TestCase):
         outer = ("let", "x", "both", ("pair", NO, ("other", inner)), name("x"))
         self.makes(outer, ("NO", "NO"))
 
-    def test_a_row_that_ends_without_rising(self):
-        table = {("f", (None,)): "NO", ("f", ("NO",)): "YES", ("f", ("YES",)): "YES"}
-        self.makes(("let", "x", "bit", ask("f", name("x")), name("x")), "YES", {}, table)
+    def test_a_row_that_does_not_rise(self):
+        around = ask("f", name("x"))
+        body = ("let", "x", "bit", around, name("x"))
+        ends = {("f", (None,)): "NO", ("f", ("NO",)): "YES", ("f", ("YES",)): "YES"}
+        comes_round = {("f", (None,)): "NO", ("f", ("NO",)): "YES", ("f", ("YES",)): "NO"}
+        falls = {("f", (None,)): "NO", ("f", ("NO",)): None}
+        for table in (ends, comes_round, falls):
+            self.makes_nothing(body, {}, table)
+            self.makes_nothing(("one", ("pair", YES, body)), {}, table)
+            self.makes_nothing(("let", "y", "bit", body, YES), {}, table)
+            self.makes(choose(NO, YES, body), "YES", {}, table)
 
-    def test_a_row_that_comes_round(self):
-        table = {("f", (None,)): "NO", ("f", ("NO",)): "YES", ("f", ("YES",)): "NO"}
-        with self.assertRaises(NoWorth):
-            made(("let", "x", "bit", ask("f", name("x")), name("x")), {}, table)
+    def test_what_the_table_tells_nothing_of(self):
+        self.makes_nothing(ask("g", ask("h", NO, NO)))
+        self.makes_nothing(("one", ("pair", NO, ask("k", name("q")))))
+        self.makes_nothing(("let", "x", "bit", ask("none"), NO))
+
+    def test_what_is_looked_up(self):
+        table = Table(TABLE)
+        body = ("pair", choose(NO, ask("g", ask("g", YES)), ask("h", YES, NO)), ("let", "x", "bit", ask("f"), YES))
+        self.assertEqual(made(body, KNOWN, table), ("YES", "YES"))
+        self.assertEqual(set(table.looked), {("g", ("YES",)), ("g", ("NO",)), ("f", ())})
 
 
 class RowsOfABookTest(unittest.TestCase):
@@ -143,14 +161,22 @@ class RowsOfABookTest(unittest.TestCase):
         bodies = dict(zip("fghk", [self.ASKED] + self.BODIES))
         book = Book(KINDS, [(f, self.PARAMETERS, "both", body) for f, body in bodies.items()])
         rows = book.rows_of("f")
-        table = {("f", row): made(self.ASKED, dict(zip("xp", row)), {}) for row in rows}
+        table = {("f", row): made(self.ASKED, dict(zip("xp", row)), Table({})) for row in rows}
         for body in bodies.values():
-            worths = {row: made(body, dict(zip("xp", row)), table) for row in rows}
+            worths = {row: made(body, dict(zip("xp", row)), Table(table)) for row in rows}
             for row, worth in worths.items():
                 self.assertIs(book.kinds().is_worth("both", worth), True)
                 for other in rows:
                     if is_under(row, other):
                         self.assertTrue(is_under(worth, worths[other]))
+
+    def test_made_at_an_asking(self):
+        book = Book(KINDS, [("f", self.PARAMETERS, "both", self.BODIES[0])])
+        asking = ("f", ("YES", ("NO", "YES")))
+        told = {asking: ("NO", None)}
+        self.assertEqual(made_at(book, asking, told), (("YES", "NO"), {asking: True}))
+        self.assertEqual(made_at(book, ("f", (None, (None, "NO"))), told), (("NO", None), {}))
+        self.assertEqual(told, {asking: ("NO", None)})
 
 
 if __name__ == "__main__":

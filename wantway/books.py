@@ -18,6 +18,8 @@ class Book:
         self.sorts = Kinds(kinds)
         self.told = {}
         self.rows = {}
+        # Filled by wantway.tables when the least table is wanted first, so that it is found but once.
+        self.turns = {}
         self.take_heads(definitions)
         self.check_bodies()
 
@@ -88,6 +90,22 @@ def kind_within(book, around, body):
     """The kind of a body, None where something in it is wrong; around has the kinds of the names around."""
     kind, place = kind_or_place(book, around, body)
     return kind
+
+
+def is_asking(book, F, worths):
+    """True where F is the name of a definition and worths, whatever stands in them, are a row of its."""
+    if F not in book.names():
+        return False
+    kinds = [kind for name, kind in book.parameters(F)]
+    if len(worths) != len(kinds):
+        return False
+    return all([book.kinds().is_worth(kind, worth) for kind, worth in zip(kinds, worths)])
+
+
+def check_asking(book, F, worths):
+    """NoAsking where these are no asking of the book."""
+    if not is_asking(book, F, worths):
+        raise NoAsking(f"{F!r} at {worths!r} is no asking")
 
 
 def are_parameters(kinds, parameters):

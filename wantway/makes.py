@@ -1,11 +1,34 @@
-"""What a body makes [11]: known has the worths of the names around, table that of each asking (f, worths)."""
+"""What a body makes [11]: known has the worths of the names around, table, a Table, those of askings."""
 
 from wantway.errors import NoWorth
-from wantway.worths import part_of
+from wantway.worths import is_under, part_of
+
+
+class Table:
+    """The worths that a dict tells of askings (f, worths); looked has as keys those that were looked up."""
+
+    def __init__(self, told):
+        self.told = told
+        self.looked = {}
+
+    def look_up(self, asking):
+        """The worth told of an asking; NoWorth where nothing is told of it."""
+        if asking not in self.told:
+            raise NoWorth(f"nothing is told of {asking}")
+        self.looked[asking] = True
+        return self.told[asking]
+
+
+def made_at(book, asking, told):
+    """(worth, looked): what an asking's body makes by a dict of askings to worths, and what is looked up there."""
+    f, worths = asking
+    names = [name for name, kind in book.parameters(f)]
+    table = Table(told)
+    return (made(book.body_of(f), dict(zip(names, worths)), table), table.looked)
 
 
 def made(body, known, table):
-    """What a right body makes."""
+    """What a right body makes; NoWorth where the table tells nothing of an asking, or a let's row doesn't rise."""
     maker = MAKERS[body[0]]
     return maker(body, known, table)
 
@@ -47,7 +70,7 @@ def made_by_choose(body, known, table):
 def made_by_ask(body, known, table):
     """Ask makes what the table tells of f at what the arguments make."""
     worths = tuple([made(argument, known, table) for argument in body[2]])
-    return table[(body[1], worths)]
+    return table.look_up((body[1], worths))
 
 
 def made_by_let(body, known, table):
@@ -57,15 +80,15 @@ def made_by_let(body, known, table):
 
 def last_of_row(body, known, table):
     """The last worth of a let's row: from None on, what E makes of the one ahead, till it is as that one."""
-    row = [None]
+    ahead = None
     while True:
-        following = made(body[3], with_worth(known, body[1], row[-1]), table)
-        if following == row[-1]:
+        following = made(body[3], with_worth(known, body[1], ahead), table)
+        if following == ahead:
             return following
-        # By a table that doesn't rise a row may come round, and would go on for ever.
-        if following in row:
-            raise NoWorth(f"the row of {body[1]} comes round and has no last worth")
-        row.append(following)
+        # A row that rises comes to an end; another one, by a table that doesn't rise, might come round for ever.
+        if not is_under(ahead, following):
+            raise NoWorth(f"the row of {body[1]} doesn't rise")
+        ahead = following
 
 
 def with_worth(known, name, worth):
