@@ -5,7 +5,7 @@ from wantway.errors import NoPart
 from wantway.papers import paper_of
 from wantway.tables import table_of
 from wantway.walls import wall_of
-from wantway.worths import is_under, part_of, unknown_ways
+from wantway.worths import is_row_under, part_of, unknown_ways
 
 
 def is_needed(book, F, i, way):
@@ -32,9 +32,14 @@ def next_wanted(book, F, worths):
     """The unknown (i, way) at a row that all greater rows with a worth know; None where there is no such row."""
     check_asking(book, F, worths)
     table = table_of(book)
-    if table[(F, worths)] is not None:
+    return wanted_at({row: table[(F, row)] for row in book.rows_of(F)}, worths)
+
+
+def wanted_at(told, worths):
+    """What is wanted next at a row, by a dict that tells all rows their worths."""
+    if told[worths] is not None:
         return []
-    greater = [row for row in book.rows_of(F) if is_row_under(worths, row) and table[(F, row)] is not None]
+    greater = [row for row, worth in told.items() if worth is not None and is_row_under(worths, row)]
     if len(greater) == 0:
         return None
     return [(i, way) for i, way in unknowns(worths) if all([part_of(row[i], way) is not None for row in greater])]
@@ -66,8 +71,3 @@ def check_part(book, F, i, way):
 def unknowns(row):
     """All (i, way) at which None stands itself in a row, in order."""
     return [(i, way) for i, worth in enumerate(row) for way in unknown_ways(worth)]
-
-
-def is_row_under(one, other):
-    """True where each worth of the one row is under that of the other."""
-    return all([is_under(first, second) for first, second in zip(one, other)])

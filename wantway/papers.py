@@ -15,7 +15,7 @@ def paper_of(book, F, worths):
     rows = []
     for rank in range(last, 0, -1):
         table = table_after(book, rank - 1)
-        for asking in wanted[rank]:
+        for asking in list(wanted[rank]):
             worth, looked = made_at(book, asking, table)
             rows.append((asking[0], asking[1], worth, rank))
             for other in looked:

@@ -12,6 +12,11 @@ def is_under(one, other):
     return one == other
 
 
+def is_row_under(one, other):
+    """True where each worth of the one row is under that of the other."""
+    return all([is_under(first, second) for first, second in zip(one, other)])
+
+
 def is_whole(worth):
     """True where no None stands in a worth."""
     if isinstance(worth, tuple):
