@@ -14,11 +14,8 @@ def wrapped(body):
     return body
 
 
-def book(counted, handed_on, last, more=()):
-    """f counts its parameters down, from D to A, the last one fastest, then tells the body last.
-
-    Each step leads through a definition step, and is seven cells deep; handed_on are parameters that stay.
-    """
+def counted_body(counted, handed_on, last, step):
+    """Counts its parameters down, from D to A, the last one fastest, asking step, then tells the body last."""
     every = counted + handed_on
 
     def below(x, tag):
@@ -28,11 +25,37 @@ def book(counted, handed_on, last, more=()):
                 arguments[at] = ("tag", TAGS[TAGS.index(tag) - 1])
             if y > x:
                 arguments[at] = ("tag", "D")
-        return ("ask", "step", tuple(arguments))
+        return ("ask", step, tuple(arguments))
 
     body = last
     for x in counted:
         body = ("choose", name(x), (("A", body),) + tuple((tag, below(x, tag)) for tag in TAGS[1:]))
+    return body
+
+
+def step_to(f, every):
+    """The body of a step that leads to f through six cells."""
+    return wrapped(("ask", f, tuple(name(x) for x in every)))
+
+
+def book(counted, handed_on, last, more=()):
+    """f counts its parameters down, then tells the body last.
+
+    Each step leads through a definition step, and is seven cells deep; handed_on are parameters that stay.
+    """
+    every = counted + handed_on
     parameters = tuple((x, "four") for x in every)
-    step = wrapped(("ask", "f", tuple(name(x) for x in every)))
-    return Book(KINDS, [("f", parameters, "four", body), ("step", parameters, "four", step)] + list(more))
+    return Book(KINDS, [
+        ("f", parameters, "four", counted_body(counted, handed_on, last, "step")),
+        ("step", parameters, "four", step_to("f", every)),
+    ] + list(more))
+
+
+def book_by_two_steps(counted, last):
+    """As book, but each step leads through two definitions, and is thirteen cells deep."""
+    parameters = tuple((x, "four") for x in counted)
+    return Book(KINDS, [
+        ("f", parameters, "four", counted_body(counted, "", last, "first")),
+        ("first", parameters, "four", step_to("second", counted)),
+        ("second", parameters, "four", step_to("f", counted)),
+    ])

@@ -1,4 +1,4 @@
-"""What several tests ask of the program: that a refusal is just the one told, that a list is the asker's own."""
+"""What several tests use: that a refusal is just the one told, that a list is the asker's own, births."""
 
 from wantway import errors
 
@@ -19,3 +19,11 @@ def assert_own_list(test, ask):
     first.insert(0, "other")
     test.assertEqual(ask(), kept)
     test.assertIsNot(ask(), ask())
+
+
+def born(*places):
+    """The birth of a cell made at the last place in the going of the one made at the place ahead, and so on."""
+    birth = ()
+    for place in places:
+        birth = (birth, place)
+    return birth

@@ -107,6 +107,18 @@ def book_of(seed):
     return Book(kinds, definitions)
 
 
+def book_with(seed, kinds, fixed):
+    """A made-up book that has these definitions, too, and asks them."""
+    chance = random.Random(seed)
+    heads = heads_of(chance, kinds)
+    asked = heads + [(f, parameters, kind) for f, parameters, kind, body in fixed] * 2
+    definitions = []
+    for f, parameters, kind in heads:
+        body = Maker(chance, kinds, asked).body(kind, dict(parameters), chance.randint(2, 4))
+        definitions.append((f, parameters, kind, body))
+    return Book(kinds, definitions + fixed)
+
+
 def books(count, first=0):
     return [book_of(seed) for seed in range(first, first + count)]
 

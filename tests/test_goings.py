@@ -2,6 +2,7 @@
 
 import unittest
 
+from helpers import born
 from samples import KINDS, NO, U, YES, ask, choose, let, name, one, other, pair
 from wantway.books import Book
 from wantway.goings import Going, Ground
@@ -12,14 +13,6 @@ NOT = ("not", (("x", "bit"),), "bit", choose(name("x"), YES, NO))
 
 def book_of(kind, body):
     return Book(KINDS, [("f", PARAMETERS, kind, body), NOT])
-
-
-def born(*places):
-    """The birth of a cell made at the last place in the going of the one made at the place ahead, and so on."""
-    birth = ()
-    for place in places:
-        birth = (birth, place)
-    return birth
 
 
 class FirstStopTest(unittest.TestCase):

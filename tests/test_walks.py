@@ -5,7 +5,7 @@ import unittest
 import countdown
 import madeup
 import wants
-from helpers import assert_only, assert_own_list
+from helpers import assert_only, assert_own_list, born
 from samples import KINDS, NO, NO_ASKINGS, U, YES, ask, book, choose, let, name, one, other, pair
 from wantway.books import Book
 from wantway.errors import NoAsking, NoMost
@@ -20,13 +20,6 @@ AND = ("and", (("x", "bit"), ("y", "bit")), "bit", choose(name("x"), NO, name("y
 
 def book_of(kind, body, parameters=()):
     return Book(KINDS, [("f", parameters, kind, body), NOT, LOOP, AND])
-
-
-def born(*places):
-    birth = ()
-    for place in places:
-        birth = (birth, place)
-    return birth
 
 
 class AskedTest(unittest.TestCase):

@@ -7,7 +7,7 @@ import unittest
 import countdown
 import madeup
 import wants
-from helpers import assert_only, assert_own_list
+from helpers import assert_only, assert_own_list, born
 from samples import KINDS, NO, NO_ASKINGS, YES, ask, book, choose, let, name, one, other, pair
 from wantway.books import Book
 from wantway.errors import NoAsking, NoMost
@@ -21,13 +21,6 @@ LOOP = ("loop", (), "bit", ask("loop"))
 
 def book_of(kind, body, parameters=()):
     return Book(KINDS, [("f", parameters, kind, body), NOT, AND, LOOP])
-
-
-def born(*places):
-    birth = ()
-    for place in places:
-        birth = (birth, place)
-    return birth
 
 
 # f asks and of two askings; the cells are c, its first and its second argument.

@@ -1,4 +1,4 @@
-"""A second, plain reading of [18] to [21], by births themselves: for small walks only."""
+"""A second, plain reading of [18] to [21], [23] and [24], by births themselves: for small walks only."""
 
 
 class Stop(Exception):
@@ -37,7 +37,18 @@ def given_head(worths, i, way):
     return ("tag", worth)
 
 
-def go(book, worths, starts, birth, want):
+def is_of_asking(book, starts, birth):
+    """Whether this cell is the asking's own, or was made for a body that asks."""
+    if birth == ():
+        return True
+    maker, place = birth
+    body = book.body_of(starts[maker][0])
+    for number in place:
+        body = parts_of(body)[number]
+    return body[0] == "ask"
+
+
+def go(book, worths, starts, birth, want, notes=()):
     """The head of going into a cell; starts has, and is given, where cells start, want tells the head of a birth."""
     f, first_place, first_around = starts[birth]
 
@@ -87,14 +98,54 @@ def go(book, worths, starts, birth, want):
             raise Stop(("unfit",))
         return head_of(head[1 if word == "one" else 2])
 
+    if is_of_asking(book, starts, birth):
+        for g, i, way in notes:
+            if g == f:
+                head = head_of(first_around[book.parameters(f)[i][0]])
+                for number in way:
+                    head = head_of(head[1 + number])
     body = book.body_of(f)
     for number in first_place:
         body = parts_of(body)[number]
     return along(body, first_place, first_around)
 
 
-def walk(book, f, worths, most, whole=False):
-    """(outcome, done, way) by want."""
+def outcome_of(worths, want, whole):
+    """What comes of the asking's own cell, want telling the head of a birth."""
+
+    def worth_of(head):
+        return head[1] if head[0] == "tag" else tuple(worth_of(head_of(part)) for part in head[1:])
+
+    def head_of(thing):
+        if thing[0] == "given":
+            return given_head(worths, thing[1], thing[2])
+        return want(thing[1]) if thing[0] == "cell" else thing
+
+    try:
+        head = want(())
+        if whole or head[0] == "tag":
+            return ("worth", worth_of(head))
+        return ("worth", (None, None))
+    except Stop as stop:
+        return stop.outcome
+
+
+def by_names(book, f, worths, most, whole=False):
+    """(outcome, count) by names."""
+    gone = []
+
+    def want(birth):
+        if len(gone) == most:
+            raise Stop(("dry",))
+        gone.append(birth)
+        return go(book, worths, starts, birth, want)
+
+    starts = {(): start_of_asking(book, f, worths)}
+    return outcome_of(worths, want, whole), len(gone)
+
+
+def walk(book, f, worths, most, whole=False, notes=()):
+    """(outcome, done, way) by want, and by notes."""
     starts = {(): start_of_asking(book, f, worths)}
     heads, wants, under_way, begun, done = {}, {}, [], [], []
 
@@ -111,27 +162,12 @@ def walk(book, f, worths, most, whole=False):
         begun.append(birth)
         under_way.append(birth)
         wants[birth] = []
-        heads[birth] = go(book, worths, starts, birth, want)
+        heads[birth] = go(book, worths, starts, birth, want, notes)
         under_way.pop()
         done.append((birth, wanter))
         return heads[birth]
 
-    def worth_of(thing):
-        head = thing
-        if thing[0] == "given":
-            head = given_head(worths, thing[1], thing[2])
-        if thing[0] == "cell":
-            head = want(thing[1])
-        return head[1] if head[0] == "tag" else tuple(worth_of(part) for part in head[1:])
-
-    try:
-        head = want(())
-        if whole:
-            outcome = ("worth", head[1] if head[0] == "tag" else tuple(worth_of(part) for part in head[1:]))
-        else:
-            outcome = ("worth", head[1] if head[0] == "tag" else (None, None))
-    except Stop as stop:
-        outcome = stop.outcome
+    outcome = outcome_of(worths, want, whole)
     return outcome, done, [(birth, heads[birth], wants[birth]) for birth, wanter in done]
 
 

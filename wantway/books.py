@@ -94,12 +94,7 @@ def kind_within(book, around, body):
 
 def is_asking(book, F, worths):
     """True where F is the name of a definition and worths, whatever stands in them, are a row of its."""
-    if F not in book.names():
-        return False
-    kinds = [kind for name, kind in book.parameters(F)]
-    if len(worths) != len(kinds):
-        return False
-    return all([book.kinds().is_worth(kind, worth) for kind, worth in zip(kinds, worths)])
+    return F in book.names() and is_row_over(book.kinds(), book.parameters(F), worths)
 
 
 def check_asking(book, F, worths):
@@ -126,6 +121,13 @@ def row_count(kinds, parameters):
     for name, kind in parameters:
         count *= len(kinds.worths_of(kind))
     return count
+
+
+def is_row_over(kinds, parameters, worths):
+    """True where worths, whatever stands in them, are a row of worths of parameters."""
+    if len(worths) != len(parameters):
+        return False
+    return all([kinds.is_worth(kind, worth) for (name, kind), worth in zip(parameters, worths)])
 
 
 def rows_over(kinds, parameters):

@@ -108,3 +108,8 @@ class Kinds:
         if not isinstance(thing, tuple) or len(thing) != 2:
             return False
         return self.is_worth(shape[1], thing[0]) and self.is_worth(shape[2], thing[1])
+
+
+def is_of_tags(kinds, kind):
+    """True where this is one of the kinds, and one of tags."""
+    return kind in kinds.names() and kinds.shape_of(kind)[0] == "tags"

@@ -1,8 +1,8 @@
 """Asked by want: nothing is done that isn't wanted, and nothing twice [20]."""
 
 from wantway.books import check_asking
-from wantway.errors import NoMost
-from wantway.goings import Going, Ground
+from wantway.doings import Doing, check_most
+from wantway.goings import Ground
 
 MOST_CELLS = 500
 
@@ -11,7 +11,7 @@ def asked(book, F, worths, most, whole=False):
     """(outcome, done): what comes of an asking by want, and the cells done for it, each with what wanted it first."""
     walk = walk_of(book, F, worths, most)
     outcome = walk.outcome(whole)
-    return (outcome, [(walk.birth_of(number), walk.birth_of(walk.wanters[number])) for number in walk.heads])
+    return (outcome, walk.done())
 
 
 def walk_of(book, F, worths, most):
@@ -21,19 +21,11 @@ def walk_of(book, F, worths, most):
     return Walk(Ground(book, F, worths), most)
 
 
-def check_most(most, highest):
-    """NoMost where a most is beyond its bounds."""
-    if not 1 <= most <= highest:
-        raise NoMost(f"most is from 1 to {highest}, not {most}")
-
-
-class Walk:
-    """The cells of an asking by want: which are under way, and which are done; all by their numbers."""
+class Walk(Doing):
+    """The cells of an asking by want: which were begun, and which are done; all by their numbers."""
 
     def __init__(self, ground, most):
-        self.ground = ground
-        self.most = most
-        self.under_way = []
+        Doing.__init__(self, ground, most)
         # Of each cell that was begun the one that wanted it, or None, and the cells that it wants, each once.
         self.wanters = {}
         self.wants = {}
@@ -46,55 +38,9 @@ class Walk:
             return None
         return self.ground.births[number]
 
-    def outcome(self, whole):
-        """What comes of the asking: its head alone, or its whole worth."""
-        told = self.head_of_cell(0)
-        if told[0] != "head":
-            return told
-        if whole:
-            return self.whole_of(told[1])
-        if told[1][0] == "pair":
-            return ("worth", (None, None))
-        return ("worth", told[1][1])
-
-    def whole_of(self, head):
-        """("worth", w) of a head with all its parts, or what came instead."""
-        if head[0] == "tag":
-            return ("worth", head[1])
-        found = []
-        for thing in head[1:]:
-            told = self.head_of_thing(thing)
-            if told[0] == "head":
-                told = self.whole_of(told[1])
-            if told[0] != "worth":
-                return told
-            found.append(told[1])
-        return ("worth", tuple(found))
-
-    def head_of_thing(self, thing):
-        """("head", head) of a thing that no cell wants, or what came instead."""
-        if thing[0] == "given":
-            return self.ground.head_given(thing[1], thing[2])
-        if thing[0] == "tag":
-            return ("head", thing)
-        return self.head_of_cell(thing[1])
-
-    def head_of_cell(self, number):
-        """("head", head) of a cell that no cell wants, or what came instead."""
-        if number in self.heads:
-            return ("head", self.heads[number])
-        stop = ("want", number)
-        while True:
-            if stop[0] == "want":
-                stop = self.want(stop[1])
-            elif stop[0] == "head":
-                ended = self.under_way.pop()
-                self.heads[ended.number] = stop[1]
-                if len(self.under_way) == 0:
-                    return stop
-                stop = self.under_way[-1].take_head(stop[1])
-            else:
-                return stop
+    def done(self):
+        """The tuples (birth, wanter) of the cells that are done, in their order."""
+        return [(self.birth_of(number), self.birth_of(self.wanters[number])) for number in self.heads]
 
     def want(self, number):
         """The next stop where this cell is wanted by the last one under way, or by none."""
@@ -104,15 +50,16 @@ class Walk:
             if number not in self.wants[wanter]:
                 self.wants[wanter].append(number)
         if number in self.heads:
-            return self.under_way[-1].take_head(self.heads[number])
+            return ("taken", self.heads[number])
         if number in self.wanters:
             return ("ring", self.ring_from(number))
-        if len(self.wanters) == self.most:
-            return ("dry",)
         self.wanters[number] = wanter
         self.wants[number] = []
-        self.under_way.append(Going(self.ground, number))
-        return self.under_way[-1].begin()
+        return self.begin(number)
+
+    def end(self, number, head):
+        """Keep the head of a cell that is done: it is taken wherever the cell is wanted again."""
+        self.heads[number] = head
 
     def ring_from(self, number):
         """The births of the cells under way from this one on: each wants the next, and the last this one."""
