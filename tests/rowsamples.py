@@ -51,6 +51,17 @@ ROWS = [
 ]
 
 
+# Made rows over these.
+BEAT = ("from", "beat", ("NO",))
+ROUND = ("from", "round", ("B",))
+DOWN = ("from", "down", ("C",))
+STOP = ("from", "stop", ())
+
+
+def behind(tags, made):
+    return ("behind", tuple(tags), made)
+
+
 def book():
     return Book(KINDS, DEFINITIONS)
 
@@ -163,3 +174,41 @@ def heads_of(rows, made, n):
     if made[0] == "behind":
         return (list(made[1]) + heads_of(rows, made[2], n))[:n]
     return [worth_of(rows.book, made[1], some) for some in zip(*[heads_of(rows, one, n) for one in made[2]])]
+
+
+FOUR = "ABCD"
+# Each window of two tags comes once in sixteen.
+BRUIJN = "AABACADBBCBDCCDD"
+
+
+def by_four(body, make):
+    return ("choose", body, tuple((tag, make(tag)) for tag in FOUR))
+
+
+def long_rows():
+    """Rows, and a book, with long rings: clock comes round after 13 heads, back by bruijn after 16."""
+    following = dict(zip([one + other for one, other in zip(BRUIJN, BRUIJN[1:] + BRUIJN[0])], BRUIJN[2:] + BRUIJN[:2]))
+    fours = (("x", "four"), ("y", "four"))
+
+    def sum_of(x, y):
+        return FOUR[(FOUR.index(x) + FOUR.index(y)) % 4]
+
+    definitions = [
+        ("bruijn", fours, "four", by_four(name("x"), lambda x: by_four(
+            name("y"), lambda y: ("tag", following[x + y])))),
+        ("sum", fours, "four", by_four(name("x"), lambda x: by_four(name("y"), lambda y: ("tag", sum_of(x, y))))),
+        ("flat", fours, "four", by_four(name("x"), lambda x: by_four(name("y"), lambda y: ("tag", "A")))),
+        ("next", (("x", "four"),), "four", by_four(name("x"), lambda x: ("tag", sum_of(x, "B")))),
+        ("turn", (("n", "trio"),), "trio", ("choose", name("n"), tuple(
+            (one, ("tag", other)) for one, other in ("PQ", "QR", "RP")))),
+    ]
+    clock = (("n", "trio"), ("x", "four"))
+    onward = ("then", name("x"), "clock", (name("n"), ask("next", name("x"))))
+    last = ("then", name("x"), "clock", (ask("turn", name("n")), A))
+    told = [
+        ("clock", clock, "four", ("by", name("x"), (("A", onward), ("B", onward), ("C", onward), ("D", (
+            "by", name("n"), (("P", last), ("Q", last), ("R", ("then", name("x"), "more", ())))))))),
+        ("more", (), "four", ("then", A, "clock", (("tag", "P"), A))),
+    ]
+    book = Book([("four", ("tags", tuple(FOUR))), ("trio", ("tags", ("P", "Q", "R")))], definitions)
+    return Rows(book, told)

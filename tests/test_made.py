@@ -5,18 +5,9 @@ import unittest
 
 import rowsamples
 from helpers import assert_only, assert_own_list
-from rowsamples import ROWS, rows
+from rowsamples import BEAT, DOWN, ROUND, ROWS, STOP, behind, rows
 from wantway.errors import NoAsking, NoMore
 from wantway.made import head, heads, more, rest
-
-BEAT = ("from", "beat", ("NO",))
-ROUND = ("from", "round", ("B",))
-DOWN = ("from", "down", ("C",))
-STOP = ("from", "stop", ())
-
-
-def behind(tags, made):
-    return ("behind", tuple(tags), made)
 
 
 class MadeTest(unittest.TestCase):
