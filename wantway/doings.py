@@ -68,9 +68,9 @@ class Doing:
 
     def want(self, number):
         """The next stop where this cell is wanted: that of a going into it, or ("taken", head), or what comes."""
-        return self.begin(number)
+        return self.go_into(number)
 
-    def begin(self, number):
+    def go_into(self, number):
         """Go into a cell, to its first stop; ("dry",) where this is one going too many."""
         if self.begun == self.most:
             return ("dry",)

@@ -55,7 +55,7 @@ class Walk(Doing):
             return ("ring", self.ring_from(number))
         self.wanters[number] = wanter
         self.wants[number] = []
-        return self.begin(number)
+        return self.go_into(number)
 
     def end(self, number, head):
         """Keep the head of a cell that is done: it is taken wherever the cell is wanted again."""
